@@ -1,0 +1,1 @@
+"""Solvedtreads: all walks that fit in the place of an unknown one."""

@@ -1,0 +1,113 @@
+"""The interface as the document lists it, and what LANGUAGE.md says of the form of the files."""
+
+import ast
+import importlib
+import inspect
+import os
+import unittest
+
+ROOT = os.path.dirname(os.path.dirname(os.path.abspath(__file__)))
+PACKAGE = os.path.join(ROOT, "solvedtreads")
+
+INTERFACE = {
+    "solvedtreads.words": {
+        "back": ["word"], "reduced": ["word"], "is_word": ["thing"], "is_place": ["thing"], "behind": ["place", "word"],
+    },
+    "solvedtreads.treads": {
+        "is_tread": ["thing"], "alike": ["word", "other"], "tread_of": ["word"], "rest_word": ["word", "tread"],
+        "least_word": ["tread"], "shows_least": ["tread", "thing"],
+    },
+    "solvedtreads.products": {"product": ["one", "other"], "back_of": ["tread"], "power": ["tread", "e"]},
+}
+
+BARRED = (
+    ast.GeneratorExp, ast.Lambda, ast.Set, ast.AsyncFunctionDef, ast.Await, ast.Global, ast.Div, ast.TryStar,
+    ast.AnnAssign,
+)
+
+
+def package_files():
+    """Return the paths of all files in the package's folder, but for what Python keeps there."""
+    return [os.path.join(PACKAGE, name) for name in sorted(os.listdir(PACKAGE)) if name != "__pycache__"]
+
+
+def parsed_files():
+    """Return the path and the tree of each file."""
+    rows = []
+    for path in package_files():
+        with open(path, encoding="ascii") as file:
+            rows.append((path, ast.parse(file.read())))
+    return rows
+
+
+class InterfaceTest(unittest.TestCase):
+    def test_names_and_arguments(self):
+        for module_name, functions in INTERFACE.items():
+            module = importlib.import_module(module_name)
+            for name, arguments in functions.items():
+                with self.subTest(name=name):
+                    function = getattr(module, name)
+                    self.assertEqual(function.__module__, module_name)
+                    parameters = inspect.signature(function).parameters.values()
+                    self.assertEqual([parameter.name for parameter in parameters], arguments)
+                    for parameter in parameters:
+                        self.assertEqual(parameter.kind, parameter.POSITIONAL_OR_KEYWORD)
+                        self.assertIs(parameter.default, parameter.empty)
+
+
+class FilesTest(unittest.TestCase):
+    def test_only_plain_files(self):
+        for path in package_files():
+            self.assertRegex(os.path.basename(path), r"^[a-z0-9_]+\.py$")
+
+    def test_sizes_and_characters(self):
+        for path in package_files():
+            with open(path, "rb") as file:
+                data = file.read()
+            lines = data.split(b"\n")
+            self.assertLessEqual(len(lines), 400, path)
+            self.assertLessEqual(max(len(line) for line in lines), 120, path)
+            self.assertTrue(all(sign == 10 or 32 <= sign <= 126 for sign in data), path)
+
+    def test_functions_are_small(self):
+        for path, tree in parsed_files():
+            for node in ast.walk(tree):
+                if isinstance(node, ast.FunctionDef):
+                    self.assertLessEqual(node.end_lineno - node.lineno + 1, 40, (path, node.name))
+
+    def test_imports_name_the_file_that_defines(self):
+        for path, tree in parsed_files():
+            for node in ast.walk(tree):
+                self.assertNotIsInstance(node, ast.Import, path)
+                if isinstance(node, ast.ImportFrom):
+                    self.assertIn(node, tree.body, path)
+                    self.assertTrue(node.module.startswith("solvedtreads."), path)
+                    self.assertEqual(node.level, 0, path)
+                    for name in node.names:
+                        self.assertIsNone(name.asname, path)
+                        self.assertIn(name.name, defined_names(node.module))
+
+    def test_barred_forms(self):
+        for path, tree in parsed_files():
+            for node in ast.walk(tree):
+                self.assertNotIsInstance(node, BARRED, path)
+                if isinstance(node, ast.Constant):
+                    self.assertNotIsInstance(node.value, (float, complex), path)
+
+
+def defined_names(module_name):
+    """Return the names that a module of the package defines itself."""
+    path = os.path.join(ROOT, *module_name.split(".")) + ".py"
+    with open(path, encoding="ascii") as file:
+        tree = ast.parse(file.read())
+    names = []
+    for node in tree.body:
+        if isinstance(node, (ast.FunctionDef, ast.ClassDef)):
+            names.append(node.name)
+        elif isinstance(node, ast.Assign):
+            names.append(node.targets[0].id)
+    return names
+
+
+if __name__ == "__main__":
+    unittest.main()
