@@ -2,7 +2,7 @@
 
 from solvedtreads.errors import NoPower, TooGreat
 from solvedtreads.treads import MOST_PLACES, check_tread
-from solvedtreads.words import follow, in_order, turn
+from solvedtreads.words import follow, in_order, step, turn
 
 EMPTY_TREAD = (("",), "")
 
@@ -16,21 +16,34 @@ def is_whole(thing, least, most):
     return least <= thing <= most
 
 
+def places_behind(start, places):
+    """Return where the places of a tread lead from a start, in the order of these."""
+    led = {}
+    for place in places:
+        led[place] = step(led[place[:-1]], place[-1]) if place else start
+    return list(led.values())
+
+
+def all_places(rows):
+    """Return the places of all rows as those of one tread."""
+    places = in_order([place for row in rows for place in row])
+    if len(places) > MOST_PLACES:
+        raise TooGreat("a tread has at most 201 places")
+    return places
+
+
 def put_together(one, other):
     """Return the product of two that are known to be treads."""
     places, end = one
     others, goal = other
-    trodden = in_order(list(places) + [follow(end, place) for place in others])
-    if len(trodden) > MOST_PLACES:
-        raise TooGreat("a tread has at most 201 places")
-    return (trodden, follow(end, goal))
+    return (all_places([places, places_behind(end, others)]), follow(end, goal))
 
 
 def turned(tread):
     """Return the back of what is known to be a tread."""
     places, end = tread
     start = turn(end)
-    return (in_order([follow(start, place) for place in places]), start)
+    return (in_order(places_behind(start, places)), start)
 
 
 def product(one, other):

@@ -112,3 +112,28 @@ def sample_treads():
     words = words_up_to(2) + ["abBA", "abBc", "bBaAa", "aabBAAbcd", "dDcCbBaA"]
     words = words + [mixed_word(seed, 4 + 9 * seed) for seed in range(1, 9)]
     return [slow_tread(word) for word in words]
+
+
+def in_order(places):
+    """Return places as an ascending tuple."""
+    return tuple(sorted(places, key=lambda place: (len(place), place)))
+
+
+def places_within(places):
+    """Return all tuples of some of the places that can be those of a tread."""
+    rows = [("",)]
+    for place in in_order(places)[1:]:
+        rows.extend([row + (place,) for row in rows if place[:-1] in row])
+    return rows
+
+
+def treads_within(places):
+    """Return all treads with places among some, which are those of a tread."""
+    return [(row, end) for row in places_within(places) for end in row]
+
+
+def slow_seen(tread, place):
+    """Walk from the place to the empty one ahead of each place."""
+    places, end = tread
+    start = place[::-1].swapcase()
+    return (in_order({slow_reduced(start + goal) for goal in places}), slow_reduced(start + end))

@@ -41,6 +41,48 @@ class ExamplesTest(unittest.TestCase):
             [(('', 'a', 'ab'), ''), (('', 'a', 'b', 'aa', 'ab'), 'aa'), (('',), '')],
         )
 
+    def test_orders(self):
+        from solvedtreads.orders import common, least_over, seen_from, shift_of, treads_all
+        from solvedtreads.treads import tread_of
+        one, other = tread_of("abBA"), tread_of("cCaA")
+        seen = seen_from(one, "a")
+        self.assertEqual(
+            [treads_all(one, other), least_over(one, other), common(one, other), seen, shift_of(one, seen)],
+            [False, (('', 'a', 'c', 'ab'), ''), (('', 'a'), ''), (('', 'A', 'b'), 'A'), 'a'],
+        )
+
+    def test_roots(self):
+        from solvedtreads.roots import root_of, shows_no_root
+        from solvedtreads.treads import tread_of
+        found = [
+            shows_no_root(tread_of("aabB"), 2), shows_no_root(tread_of("baaB"), 2), shows_no_root(tread_of("ab"), 2),
+        ]
+        self.assertEqual(
+            [root_of(tread_of("bBabBa"), 2), found],
+            [(('', 'a', 'b'), 'a'), [('place', 'aab'), ('ring', 1), ('end',)]],
+        )
+
+    def test_equations(self):
+        from solvedtreads.equations import number_of, solution_at, solutions
+        from solvedtreads.treads import tread_of
+        a, empty, ab = tread_of("a"), tread_of(""), tread_of("ab")
+        self.assertEqual(
+            [solutions(a, empty, ab), solution_at(a, empty, ab, 0), number_of(a, empty, ab, tread_of("Aab"))],
+            [((('', 'b'), 'b'), (('', 'A', 'b'), 'b'), 2), (('', 'b'), 'b'), 1],
+        )
+
+    def test_makers(self):
+        from solvedtreads.makers import needless, same_makers, shows_way, why_not
+        from solvedtreads.treads import tread_of
+        loop, other, step = tread_of("aA"), tread_of("bB"), tread_of("b")
+        goal = tread_of("baAB")
+        found = [why_not([loop], tread_of("a")), why_not([loop, other], goal)]
+        shown = shows_way([loop, step], goal, [(1, 1), (0, 1), (1, -1)])
+        self.assertEqual(
+            [found, shown, needless([other, step]), same_makers([step], [other])],
+            [[('end', ('',)), ('place', 'ba')], True, [0], (0, 0)],
+        )
+
 
 if __name__ == "__main__":
     unittest.main()

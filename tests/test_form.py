@@ -18,6 +18,19 @@ INTERFACE = {
         "least_word": ["tread"], "shows_least": ["tread", "thing"],
     },
     "solvedtreads.products": {"product": ["one", "other"], "back_of": ["tread"], "power": ["tread", "e"]},
+    "solvedtreads.orders": {
+        "treads_all": ["one", "other"], "least_over": ["one", "other"], "common": ["one", "other"],
+        "spare_of": ["tread"], "seen_from": ["tread", "place"], "shift_of": ["one", "other"],
+    },
+    "solvedtreads.roots": {"root_of": ["tread", "e"], "shows_no_root": ["tread", "e"]},
+    "solvedtreads.equations": {
+        "solutions": ["one", "other", "goal"], "solution_at": ["one", "other", "goal", "number"],
+        "number_of": ["one", "other", "goal", "tread"],
+    },
+    "solvedtreads.makers": {
+        "way_of": ["makers", "tread"], "shows_way": ["makers", "tread", "thing"], "why_not": ["makers", "tread"],
+        "needless": ["makers"], "same_makers": ["one", "other"],
+    },
 }
 
 BARRED = (
@@ -91,6 +104,8 @@ class FilesTest(unittest.TestCase):
         for path, tree in parsed_files():
             for node in ast.walk(tree):
                 self.assertNotIsInstance(node, BARRED, path)
+                if isinstance(node, ast.Starred):
+                    self.assertIsInstance(node.value, ast.Name, path)
                 if isinstance(node, ast.Constant):
                     self.assertNotIsInstance(node.value, (float, complex), path)
 
