@@ -37,14 +37,18 @@ def check_tread(tread):
         raise NoTread("a tread is due")
 
 
+def stops_of(word):
+    """Return to which places the beginnings of a word lead, from the empty one on."""
+    stops = [""]
+    for letter in word:
+        stops.append(step(stops[-1], letter))
+    return stops
+
+
 def walked(word):
     """Return the places and the end of a word of any length."""
-    place = ""
-    trodden = [place]
-    for letter in word:
-        place = step(place, letter)
-        trodden.append(place)
-    return (in_order(trodden), place)
+    stops = stops_of(word)
+    return (in_order(stops), stops[-1])
 
 
 def tread_of(word):

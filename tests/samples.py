@@ -135,5 +135,34 @@ def treads_within(places):
 def slow_seen(tread, place):
     """Walk from the place to the empty one ahead of each place."""
     places, end = tread
-    start = place[::-1].swapcase()
+    start = slow_back(place)
     return (in_order({slow_reduced(start + goal) for goal in places}), slow_reduced(start + end))
+
+
+def slow_back(word):
+    """Return the back of a word."""
+    return word[::-1].swapcase()
+
+
+def some_word(tread):
+    """Return a word with a tread, which goes to each place and back."""
+    places, end = tread
+    return "".join(place + slow_back(place) for place in places) + end
+
+
+def in_numbers(treads):
+    """Return treads in the order of their numbers: what lacks the first place comes first."""
+    pool = in_order({place for tread in treads for place in tread[0]})
+    return sorted(treads, key=lambda tread: [place in tread[0] for place in pool])
+
+
+def slow_solutions(one, other, goal):
+    """Try all treads with places that the goal's are seen as from one's end, in their order."""
+    pool = in_order({slow_reduced(slow_back(one[1]) + place) for place in goal[0]})
+    if "" not in pool:
+        return []
+    found = []
+    for tread in treads_within([place for place in pool if all(place[:k] in pool for k in range(len(place)))]):
+        if slow_tread(some_word(one) + some_word(tread) + some_word(other)) == goal:
+            found.append(tread)
+    return in_numbers(found)

@@ -4,36 +4,16 @@ import itertools
 import unittest
 
 from samples import (
-    NO_INTEGERS, NO_TREADS, in_order, mixed_word, path_tread, places_within, sample_treads, slow_reduced, slow_tread,
-    wide_tread, words_up_to,
+    NO_INTEGERS, NO_TREADS, in_order, mixed_word, path_tread, sample_treads, slow_solutions, slow_tread, wide_tread,
+    words_up_to,
 )
 from solvedtreads.equations import number_of, solution_at, solutions
 from solvedtreads.errors import NoNumber, NoTread
 from solvedtreads.orders import spare_of, treads_all
 from solvedtreads.products import product
-from solvedtreads.treads import is_tread, least_word, tread_of
-from solvedtreads.words import back
+from solvedtreads.treads import is_tread, tread_of
 
 EMPTY = (("",), "")
-
-
-def slow_solutions(one, other, goal):
-    """Try all treads with places that the goal's are seen as from one's end, in their order."""
-    pool = in_order({slow_reduced(back(one[1]) + place) for place in goal[0]})
-    if "" not in pool:
-        return []
-    ahead, behind = least_word(one), least_word(other)
-    found = []
-    for places in places_within([place for place in pool if has_all_beginnings(place, pool)]):
-        for end in places:
-            if slow_tread(ahead + least_word((places, end)) + behind) == goal:
-                found.append((places, end))
-    return sorted(found, key=lambda tread: [place in tread[0] for place in pool])
-
-
-def has_all_beginnings(place, pool):
-    """Return whether all beginnings of a place are in a pool."""
-    return all(place[:k] in pool for k in range(len(place)))
 
 
 def comes_first(one, other):

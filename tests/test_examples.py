@@ -2,7 +2,7 @@
 
 import unittest
 
-from solvedtreads.errors import NoWord
+from solvedtreads.errors import NoMatch, NoPlace, NoWord
 
 
 class ExamplesTest(unittest.TestCase):
@@ -82,6 +82,68 @@ class ExamplesTest(unittest.TestCase):
             [found, shown, needless([other, step]), same_makers([step], [other])],
             [[('end', ('',)), ('place', 'ba')], True, [0], (0, 0)],
         )
+
+    def test_descents(self):
+        from solvedtreads.descents import descent, shows_descent
+        found = [shows_descent("bBaA", ["bBaA", "aAbB"]), shows_descent("bBaA", ["bBaA"])]
+        self.assertEqual(
+            [found, shows_descent("aAa", ["aAa", "a"]), descent("a")], [[True, False], True, ['a']],
+        )
+
+    def test_walks(self):
+        from solvedtreads.walks import Walk
+        a = Walk("ab")
+        both = Walk("bB") * a
+        self.assertEqual(
+            [
+                both.word(), both.covers(a), a.covers(both), (both & a) == a, len(both), both.end, "b" in both,
+                (a ** 2).word(),
+            ],
+            ['bBab', True, False, True, 4, 'ab', True, 'abab'],
+        )
+
+    def test_no_match(self):
+        from solvedtreads.walks import Walk
+        with self.assertRaises(NoMatch):
+            Walk("a") | Walk("b")
+
+    def test_answers(self):
+        from solvedtreads.answers import Answers
+        from solvedtreads.treads import tread_of
+        a = Answers(tread_of("a"), tread_of(""), tread_of("abBcC"))
+        self.assertEqual(
+            [a.how_many(), a.least(), a.taking("A").how_many(), a.barring("b").least(), tread_of("bBcC") in a],
+            [2, (('', 'b', 'c'), ''), 1, None, True],
+        )
+
+    def test_answers_beside_others(self):
+        from solvedtreads.answers import Answers
+        from solvedtreads.treads import tread_of
+        empty, ab = tread_of(""), tread_of("ab")
+        a, b = Answers(tread_of("a"), empty, ab), Answers(empty, empty, tread_of("b"))
+        self.assertEqual(
+            [(a & b) == b, a == b, (~b).least(), a.at(1), a.number_of(tread_of("b"))],
+            [True, False, (('', 'B'), 'B'), (('', 'A', 'b'), 'b'), 0],
+        )
+
+    def test_wishes(self):
+        from solvedtreads.answers import Answers
+        from solvedtreads.treads import tread_of
+        from solvedtreads.wishes import Wishes, trial
+        wishes = Wishes(Answers(tread_of("a"), tread_of(""), tread_of("ab")))
+        wishes.must("A")
+        self.assertEqual(
+            [wishes.state(), wishes.open_place(), trial(wishes, ["<", ["-A"], "+c", "-b"]), len(wishes)],
+            ['one', None, ['many', ['one'], 'none', 'none'], 1],
+        )
+
+    def test_no_place(self):
+        from solvedtreads.answers import Answers
+        from solvedtreads.treads import tread_of
+        from solvedtreads.wishes import Wishes, trial
+        wishes = Wishes(Answers(tread_of("a"), tread_of(""), tread_of("ab")))
+        with self.assertRaises(NoPlace):
+            trial(wishes, ["+b", "b"])
 
 
 if __name__ == "__main__":

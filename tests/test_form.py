@@ -31,6 +31,32 @@ INTERFACE = {
         "way_of": ["makers", "tread"], "shows_way": ["makers", "tread", "thing"], "why_not": ["makers", "tread"],
         "needless": ["makers"], "same_makers": ["one", "other"],
     },
+    "solvedtreads.descents": {"descent": ["word"], "shows_descent": ["word", "thing"]},
+    "solvedtreads.wishes": {"trial": ["wishes", "things"]},
+}
+
+CLASSES = {
+    ("solvedtreads.walks", "Walk"): {
+        "__init__": ["self", "word"], "tread": ["self"], "word": ["self"], "covers": ["self", "other"],
+    },
+    ("solvedtreads.answers", "Answers"): {
+        "__init__": ["self", "one", "other", "goal"], "how_many": ["self"], "least": ["self"], "most": ["self"],
+        "at": ["self", "number"], "number_of": ["self", "tread"], "taking": ["self", "place"],
+        "barring": ["self", "place"],
+    },
+    ("solvedtreads.wishes", "Wishes"): {
+        "__init__": ["self", "answers"], "must": ["self", "place"], "bar": ["self", "place"], "undo": ["self"],
+        "left": ["self"], "state": ["self"], "open_place": ["self"],
+    },
+}
+
+OPERATORS = {
+    ("solvedtreads.walks", "Walk"): [
+        "__len__", "__contains__", "__eq__", "__mul__", "__invert__", "__pow__", "__or__", "__and__", "__imul__",
+        "__ipow__", "__ior__", "__iand__",
+    ],
+    ("solvedtreads.answers", "Answers"): ["__contains__", "__eq__", "__and__", "__invert__", "__iand__"],
+    ("solvedtreads.wishes", "Wishes"): ["__len__", "__enter__", "__exit__"],
 }
 
 BARRED = (
@@ -66,6 +92,30 @@ class InterfaceTest(unittest.TestCase):
                     for parameter in parameters:
                         self.assertEqual(parameter.kind, parameter.POSITIONAL_OR_KEYWORD)
                         self.assertIs(parameter.default, parameter.empty)
+
+
+class ClassesTest(unittest.TestCase):
+    def test_methods_and_arguments(self):
+        for (module_name, name), methods in CLASSES.items():
+            made = getattr(importlib.import_module(module_name), name)
+            self.assertEqual(made.__module__, module_name)
+            for method, arguments in methods.items():
+                with self.subTest(name=name, method=method):
+                    # Each one stands in the class itself.
+                    parameters = inspect.signature(vars(made)[method]).parameters.values()
+                    self.assertEqual([parameter.name for parameter in parameters], arguments)
+                    for parameter in parameters:
+                        self.assertEqual(parameter.kind, parameter.POSITIONAL_OR_KEYWORD)
+                        self.assertIs(parameter.default, parameter.empty)
+
+    def test_operators_and_properties(self):
+        for (module_name, name), methods in OPERATORS.items():
+            made = getattr(importlib.import_module(module_name), name)
+            for method in methods:
+                self.assertIn(method, vars(made))
+        walk = importlib.import_module("solvedtreads.walks").Walk
+        for name in ("places", "end"):
+            self.assertIsInstance(vars(walk)[name], property)
 
 
 class FilesTest(unittest.TestCase):
